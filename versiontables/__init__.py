@@ -1,0 +1,1 @@
+"""A store of tables kept in versions."""
