@@ -1,0 +1,86 @@
+"""The interface: its names and arguments, and the files in which they are defined."""
+
+import importlib
+import inspect
+import unittest
+
+FUNCTIONS = {
+    "codec": ["encode(item)", "decode_prefix(text, index)", "decode(text)"],
+    "values": ["base_kind(kind)", "accepts(kind, value)", "is_name(text)", "digest(text)"],
+    "forms": [
+        "make_form(columns, key)",
+        "find_column(form, name)",
+        "column_names(form)",
+        "key_signature(form)",
+        "fits(form, row)",
+        "split_row(form, row)",
+        "join_row(form, key, rest)",
+        "reshape(old, new, row)",
+    ],
+    "trees": [
+        "ends_chunk(level, key, count)",
+        "build(chunks, entries)",
+        "read(chunks, root)",
+        "size(chunks, root)",
+        "height(chunks, root)",
+        "find(chunks, root, key)",
+        "edit(chunks, root, changes)",
+        "reachable(chunks, root)",
+    ],
+    "comparing": ["compare(chunks, first, second)"],
+    "tables": ["write_rows(chunks, form, rows)", "read_rows(chunks, form, root)", "find_row(chunks, form, root, key)"],
+    "states": [
+        "write_state(chunks, tables)",
+        "read_state(chunks, state)",
+        "find_table(chunks, state, name)",
+        "set_table(chunks, state, name, form, root)",
+        "remove_table(chunks, state, name)",
+        "state_rows(chunks, state, name)",
+        "plain_tables(chunks, state)",
+    ],
+    "soundness": ["violations(chunks, state)"],
+    "patches": ["diff(chunks, first, second)", "apply_patch(chunks, state, patch)"],
+}
+
+METHODS = {
+    ("book", "Book"): ["__init__()", "address(text)", "find(text)", "__len__()"],
+    ("chunks", "Chunks"): [
+        "__init__(book)",
+        "put(text)",
+        "get(address)",
+        "has(address)",
+        "drop(address)",
+        "addresses()",
+        "__len__()",
+    ],
+}
+
+
+def parse(told):
+    name, _, names = told.rstrip(")").partition("(")
+    return name, names.split(", ") if names else []
+
+
+class InterfaceTest(unittest.TestCase):
+    def test_functions(self):
+        for module_name, functions in FUNCTIONS.items():
+            module = importlib.import_module("versiontables." + module_name)
+            for name, parameters in map(parse, functions):
+                with self.subTest(module_name, function=name):
+                    function = getattr(module, name)
+                    self.assertEqual(function.__module__, module.__name__)
+                    self.assertEqual(list(inspect.signature(function).parameters), parameters)
+
+    def test_methods(self):
+        for (module_name, class_name), methods in METHODS.items():
+            module = importlib.import_module("versiontables." + module_name)
+            one = getattr(module, class_name)
+            self.assertEqual(one.__module__, module.__name__)
+            for name, parameters in map(parse, methods):
+                with self.subTest(class_name, method=name):
+                    self.assertIn(name, vars(one))
+                    self.assertEqual(list(inspect.signature(vars(one)[name]).parameters)[1:], parameters)
+
+
+if __name__ == "__main__":
+    unittest.main()
