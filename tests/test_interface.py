@@ -40,6 +40,30 @@ FUNCTIONS = {
     ],
     "soundness": ["violations(chunks, state)"],
     "patches": ["diff(chunks, first, second)", "apply_patch(chunks, state, patch)"],
+    "choices": [
+        "clash(base, ours, theirs)",
+        "choose(base, ours, theirs)",
+        "merge_forms(base, ours, theirs)",
+        "lost_columns(base, merged)",
+    ],
+    "merging": [
+        "merge_row(form, base, ours, theirs)",
+        "merge_states(chunks, base, ours, theirs)",
+        "resolve_conflict(chunks, state, theirs, conflict, side)",
+    ],
+    "commits": [
+        "write_commit(chunks, state, parents, message)",
+        "read_commit(chunks, commit)",
+        "root_commit(chunks)",
+    ],
+    "graph": [
+        "ancestors(chunks, commit)",
+        "is_ancestor(chunks, first, second)",
+        "merge_base(chunks, first, second)",
+        "first_line(chunks, commit)",
+    ],
+    "versions": ["parse_version(text)", "follow(chunks, commit, steps)"],
+    "tokens": ["split_tokens(text)"],
 }
 
 METHODS = {

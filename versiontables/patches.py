@@ -3,7 +3,7 @@
 from versiontables.comparing import compare
 from versiontables.errors import PatchMismatch
 from versiontables.forms import fits, key_signature, split_row
-from versiontables.states import read_state, write_state
+from versiontables.states import read_state, tables_by_name, write_state
 from versiontables.tables import optional_row, read_rows, reshape_rows
 from versiontables.trees import build, edit, find
 
@@ -35,8 +35,8 @@ def diff(chunks, first, second):
     """Return the patch from the first state to the second one."""
     if first == second:
         return []
-    before = _tables_by_name(chunks, first)
-    after = _tables_by_name(chunks, second)
+    before = tables_by_name(chunks, first)
+    after = tables_by_name(chunks, second)
     patch = []
     for name in sorted(set(list(before) + list(after))):
         patch.extend(_table_steps(chunks, name, before.get(name), after.get(name)))
@@ -50,10 +50,6 @@ def apply_patch(chunks, state, patch):
         _apply_step(chunks, drafts, step)
     tables = [(name, drafts[name].form, drafts[name].write(chunks)) for name in drafts]
     return write_state(chunks, tables)
-
-
-def _tables_by_name(chunks, state):
-    return {name: (form, root) for name, form, root in read_state(chunks, state)}
 
 
 def _table_steps(chunks, name, old, new):

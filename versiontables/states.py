@@ -48,5 +48,10 @@ def plain_tables(chunks, state):
     return [(name, form, read_rows(chunks, form, root)) for name, form, root in read_state(chunks, state)]
 
 
+def tables_by_name(chunks, state):
+    """Return a dict from the names of the tables to the pairs (form, root)."""
+    return {name: (form, root) for name, form, root in read_state(chunks, state)}
+
+
 def _other_tables(chunks, state, name):
     return [table for table in read_state(chunks, state) if table[0] != name]
