@@ -64,6 +64,11 @@ FUNCTIONS = {
     ],
     "versions": ["parse_version(text)", "follow(chunks, commit, steps)"],
     "tokens": ["split_tokens(text)"],
+    "parsing": ["parse_query(text)", "parse_expression(text)"],
+    "showing": ["show_query(tree)", "show_expression(tree)"],
+    "checking": ["sources(tree)", "expression_kind(tree, columns)", "query_columns(tree, catalog)"],
+    "running": ["evaluate(tree, columns, row)", "run_query(tree, catalog)"],
+    "improving": ["improve_query(tree, catalog)"],
 }
 
 METHODS = {
@@ -77,6 +82,7 @@ METHODS = {
         "addresses()",
         "__len__()",
     ],
+    ("desk", "Desk"): ["__init__(chunks)", "head_commit()", "head_state()", "is_clean()", "resolve(text)", "move_head(commit)"],
 }
 
 
