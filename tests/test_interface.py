@@ -69,6 +69,28 @@ FUNCTIONS = {
     "checking": ["sources(tree)", "expression_kind(tree, columns)", "query_columns(tree, catalog)"],
     "running": ["evaluate(tree, columns, row)", "run_query(tree, catalog)"],
     "improving": ["improve_query(tree, catalog)"],
+    "editing": [
+        "create_table(desk, name, form)",
+        "drop_table(desk, name)",
+        "alter_table(desk, name, form)",
+        "put_rows(desk, name, rows)",
+        "remove_rows(desk, name, keys)",
+        "update_rows(desk, name, assignments, condition)",
+        "remove_where(desk, name, condition)",
+    ],
+    "asking": ["ask(desk, text, *, version=None)"],
+    "committing": [
+        "commit(desk, message)",
+        "add_branch(desk, name, version='@')",
+        "add_tag(desk, name, version='@')",
+        "drop_branch(desk, name)",
+        "drop_tag(desk, name)",
+        "checkout(desk, version)",
+        "reset(desk, version)",
+    ],
+    "joining": ["merge(desk, version)", "conflicts(desk)", "settle(desk, index, side)", "abort(desk)"],
+    "replaying": ["pick(desk, version)", "undo(desk, version)", "replay(desk, version)"],
+    "tracing": ["log(desk, version)", "blame(desk, version, table, key)", "bisect(desk, good, bad, text)"],
 }
 
 METHODS = {
@@ -87,8 +109,14 @@ METHODS = {
 
 
 def parse(told):
-    name, _, names = told.rstrip(")").partition("(")
-    return name, names.split(", ") if names else []
+    return told.partition("(")[0], "(" + told.partition("(")[2]
+
+
+def arguments(function, of_a_class):
+    """The arguments of a function, without the object of a method, as the interface writes them."""
+    signature = inspect.signature(function)
+    parameters = list(signature.parameters.values())
+    return str(signature.replace(parameters=parameters[1:] if of_a_class else parameters))
 
 
 class InterfaceTest(unittest.TestCase):
@@ -99,7 +127,7 @@ class InterfaceTest(unittest.TestCase):
                 with self.subTest(module_name, function=name):
                     function = getattr(module, name)
                     self.assertEqual(function.__module__, module.__name__)
-                    self.assertEqual(list(inspect.signature(function).parameters), parameters)
+                    self.assertEqual(arguments(function, False), parameters)
 
     def test_methods(self):
         for (module_name, class_name), methods in METHODS.items():
@@ -109,7 +137,7 @@ class InterfaceTest(unittest.TestCase):
             for name, parameters in map(parse, methods):
                 with self.subTest(class_name, method=name):
                     self.assertIn(name, vars(one))
-                    self.assertEqual(list(inspect.signature(vars(one)[name]).parameters)[1:], parameters)
+                    self.assertEqual(arguments(vars(one)[name], True), parameters)
 
 
 if __name__ == "__main__":

@@ -38,12 +38,12 @@ def query_columns(tree, catalog):
         return catalog[tree[1:]][0]
     columns = query_columns(tree[1], catalog)
     if word == "where":
-        _check_condition(tree[2], columns)
+        check_condition(tree[2], columns)
     elif word == "keep":
         columns = _kept_columns(columns, tree[2])
     elif word == "join":
         columns = _different(columns + query_columns(tree[2], catalog))
-        _check_condition(tree[3], columns)
+        check_condition(tree[3], columns)
     elif word == "union":
         _check(query_columns(tree[2], catalog) == columns, "the two sides of a union have unlike columns")
     elif word == "group":
@@ -52,6 +52,11 @@ def query_columns(tree, catalog):
         for name, _ in tree[2]:
             _column_kind(columns, name)
     return columns
+
+
+def check_condition(tree, columns):
+    """Raise an error if the expression is invalid, or does not have the kind truth."""
+    _check(expression_kind(tree, columns) == "truth", "a condition is no truth")
 
 
 def _all_sources(tree):
@@ -75,10 +80,6 @@ def _column_kind(columns, name):
         if column_name == name:
             return kind
     raise InvalidQuery(f"there is no column {name}")
-
-
-def _check_condition(tree, columns):
-    _check(expression_kind(tree, columns) == "truth", "a condition is no truth")
 
 
 def _kept_columns(columns, items):

@@ -14,6 +14,11 @@ def read_commit(chunks, commit):
     return decode(chunks.get(commit))[1:]
 
 
+def commit_state(chunks, commit):
+    """Return the address of the state of the commit."""
+    return read_commit(chunks, commit)[0]
+
+
 def root_commit(chunks):
     """Put the chunks of the root commit and of its state; return the address of the commit."""
     return write_commit(chunks, write_state(chunks, []), (), "")

@@ -1,7 +1,7 @@
 """The desk, which is the place of work over one chunk store."""
 
-from versiontables.commits import holds_commit, read_commit, root_commit
-from versiontables.errors import UnknownVersion
+from versiontables.commits import commit_state, holds_commit, root_commit
+from versiontables.errors import NotClean, UnknownVersion
 from versiontables.versions import follow, parse_version
 
 
@@ -15,7 +15,7 @@ class Desk:
         self.tags = {}
         self.fars = {}
         self.head = ("branch", "main")
-        self.working = read_commit(chunks, commit)[0]
+        self.working = commit_state(chunks, commit)
         self.merging = None
 
     def head_commit(self):
@@ -25,11 +25,16 @@ class Desk:
 
     def head_state(self):
         """Return the address of the state of the commit of the head."""
-        return read_commit(self.chunks, self.head_commit())[0]
+        return commit_state(self.chunks, self.head_commit())
 
     def is_clean(self):
         """Return True if the desk is clean, otherwise False."""
         return self.merging is None and self.working == self.head_state()
+
+    def check_clean(self):
+        """Raise an error if the desk is not clean."""
+        if not self.is_clean():
+            raise NotClean("the desk is not clean")
 
     def resolve(self, text):
         """Return the address of the commit that the version text names."""
@@ -43,6 +48,12 @@ class Desk:
             self.branches[name] = commit
         else:
             self.head = ("commit", commit)
+
+    def take_up(self, commit):
+        """Let the head move to the commit, and the working state become its state."""
+        state = commit_state(self.chunks, commit)
+        self.move_head(commit)
+        self.working = state
 
     def _base_commit(self, base, name):
         """Return the address of the commit that the base of a version text names."""

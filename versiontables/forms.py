@@ -33,6 +33,11 @@ def column_names(form):
     return tuple([column[0] for column in form[0]])
 
 
+def plain_columns(form):
+    """Return the names and base kinds of the columns, in order, as queries and expressions see them."""
+    return tuple([(column[0], base_kind(column[1])) for column in form[0]])
+
+
 def key_signature(form):
     """Return the names and kinds of the key columns, in the order of the key."""
     return tuple([(name, find_column(form, name)[1]) for name in form[1]])

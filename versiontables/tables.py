@@ -7,13 +7,18 @@ from versiontables.trees import build, find, read
 
 def write_rows(chunks, form, rows):
     """Put the tree of the rows; return its address."""
+    return build(chunks, row_entries(form, rows))
+
+
+def row_entries(form, rows):
+    """Return the list of the entries of the rows, which must have different keys, in ascending order."""
     if not all([fits(form, row) for row in rows]):
         raise InvalidRow("a tuple is not a row of the form")
     entries = sorted([split_row(form, row) for row in rows], key=lambda entry: entry[0])
     keys = [key for key, _ in entries]
     if len(set(keys)) < len(keys):
         raise DuplicateKey("two rows have the same key")
-    return build(chunks, entries)
+    return entries
 
 
 def read_rows(chunks, form, root):
