@@ -91,6 +91,8 @@ FUNCTIONS = {
     "joining": ["merge(desk, version)", "conflicts(desk)", "settle(desk, index, side)", "abort(desk)"],
     "replaying": ["pick(desk, version)", "undo(desk, version)", "replay(desk, version)"],
     "tracing": ["log(desk, version)", "blame(desk, version, table, key)", "bisect(desk, good, bad, text)"],
+    "closure": ["children(text)", "closure(chunks, addresses)"],
+    "sweeping": ["named(desk)", "sweep(desk)"],
 }
 
 METHODS = {
@@ -105,6 +107,22 @@ METHODS = {
         "__len__()",
     ],
     ("desk", "Desk"): ["__init__(chunks)", "head_commit()", "head_state()", "is_clean()", "resolve(text)", "move_head(commit)"],
+    ("fetching", "Fetch"): ["__init__(chunks, tips)", "wants()", "receive(address, text)", "finish()"],
+    ("peers", "Peer"): ["__init__(desk)", "receive(letter)", "offer(name)", "again()", "open_goals()"],
+    ("disk", "Disk"): [
+        "__init__()",
+        "write(name, text)",
+        "sync(name)",
+        "cut(name, length)",
+        "read(name)",
+        "total()",
+        "arm(count)",
+        "restart(kept)",
+    ],
+    ("journal", "Journal"): [
+        "__init__(disk, name)", "append(item)", "sync()", "items_from(index)", "__len__()", "__iter__()",
+    ],
+    ("vault", "Vault"): ["__init__(disk, book)", "save()", "compact()"],
 }
 
 
