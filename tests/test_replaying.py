@@ -3,6 +3,7 @@
 import unittest
 
 from tests.desks import LINKED, UNIQUE, WARES, WIDER, DeskCase, commits_in
+from versiontables.codec import encode
 from versiontables.commits import read_commit, write_commit
 from versiontables.errors import (
     InvalidVersion, NotClean, NothingToCommit, NotPickable, PickConflict, UnknownVersion, Unsound,
@@ -312,23 +313,23 @@ class ReplayTest(ReplayingCase):
         self.fails(PickConflict, "replay", "side")
 
     def test_an_unsound_state_that_is_passed_over(self):
-        """A commit that is passed over is not asked whether it is sound."""
+        """A commit that is passed over is not asked whether the state is sound."""
+        one = self.save_as("one", (1, "one", 1))
+        self.do("checkout", "side")
+        self.do("put_rows", "wares", [(1, "one", 1)])
         self.do("create_table", "more", LINKED)
         self.do("put_rows", "more", [(1, "", 99)])
+        # No function commits an unsound state, so this commit is written by hand.
         unsound = self.model.create(self.model.working, [self.model.head_commit()], "unsound")
-        self.world.link()
-        address = self.world.addresses[unsound]
-        self.desk.chunks.put(self.world.scratch.get(address))
+        self.desk.chunks.put(encode(("commit", self.desk.working, (self.start,), "unsound")))
+        self.assertTrue(self.world.link())
         self.do("reset", "@")
-        self.save_as("one", (1, "one", 1))
-        self.do("reset", ":" + str(address))
-        self.do("add_branch", "bad")
-        self.do("checkout", "side")
-        self.save_as("other", (4, "d", 4))
+        self.do("add_tag", "bad", ":" + str(self.world.addresses[unsound]))
         self.do("checkout", "main")
-        self.fails(Unsound, "replay", "side")
-        self.do("checkout", "bad")
         self.assertEqual(self.do("replay", "bad"), [])
+        self.do("reset", ":" + str(one))
+        self.save_as("two", (2, "two", 2))
+        self.fails(Unsound, "replay", "bad")
 
     def test_a_long_line(self):
         for count in range(120):
