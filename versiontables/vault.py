@@ -53,7 +53,7 @@ class Vault:
     def _append_record(self, addresses):
         """Append a record of the desk that brings these chunks, and save it."""
         texts = [self.desk.chunks.get(address) for address in addresses]
-        self._journal.append(_record(self._number, texts, self.desk))
+        self._journal.append(_desk_record(self._number, texts, self.desk))
         self._journal.sync()
         for address in addresses:
             self._brought[address] = True
@@ -72,7 +72,8 @@ def _put_texts(chunks, journal):
             chunks.put(text)
 
 
-def _record(number, texts, desk):
+def _desk_record(number, texts, desk):
+    """Return the record with that number of the desk, which brings these texts."""
     merging = None
     if desk.merging is not None:
         merging = (desk.merging[0], tuple(desk.merging[1]))
